@@ -1,0 +1,1 @@
+"""Nearfrac: the simplest fractions near a number."""
