@@ -30,5 +30,9 @@ def less(one, other):
 
 def apart(one, other):
     """Give how far two fractions lie apart, as a fraction."""
-    gap = abs(one[0] * other[1] - other[0] * one[1])
-    return lowest(gap, one[1] * other[1])
+    return lowest(gap(one, other), one[1] * other[1])
+
+
+def gap(one, other):
+    """Give how far two fractions lie apart, times both lower parts."""
+    return abs(one[0] * other[1] - other[0] * one[1])

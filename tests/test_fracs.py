@@ -6,44 +6,19 @@ from fractions import Fraction
 
 from nearfrac import errors, fracs
 from nearfrac.fracs import apart, less, lowest
+from samples import (
+    MOST, NO_WHOLE_NUMBERS, FractionCase, fibonacci_below, small_fractions,
+)
 
-MOST = 10 ** 60 - 1
 PRIMES = (2, 3, 5, 7, 11, 13, 97, 65537, 10 ** 9 + 7, 2 ** 61 - 1,
           2 ** 89 - 1, 2 ** 107 - 1, 2 ** 127 - 1)
-NO_WHOLE_NUMBERS = (
-    True, False, None, "", "1", "one", b"1", 0.0, 1.0, 0.5, float("nan"),
-    float("inf"), 1j, Fraction(1), Fraction(1, 2), [], [1], [1, 2], (), (1,),
-    (1, 2), {}, {1: 1}, {1}, frozenset(), object(), int, range(3),
-)
 OTHER_REFUSALS = (
     errors.NoPath, errors.NoBounds, errors.NoRoom, errors.Unsure,
     errors.NoText, errors.NoNumber,
 )
 
 
-def fibonacci_below(end):
-    """The two greatest neighbours of the Fibonacci numbers below an end."""
-    lesser, greater = 1, 1
-    while lesser + greater < end:
-        lesser, greater = greater, lesser + greater
-    return lesser, greater
-
-
-def small_fractions(most):
-    """All fractions whose parts are at most the given number."""
-    pairs = [(upper, lower) for upper in range(most + 1)
-             for lower in range(1, most + 1)]
-    return [pair for pair in pairs
-            if Fraction(*pair).as_integer_ratio() == pair]
-
-
-class FracsTest(unittest.TestCase):
-
-    def assert_fraction(self, given, wanted):
-        """The same values, and of the very kinds: True == 1 is not enough."""
-        self.assertEqual(given, wanted)
-        self.assertIs(type(given), tuple)
-        self.assertEqual([type(part) for part in given], [int, int])
+class FracsTest(FractionCase):
 
     def assert_less(self, one, other):
         """Less, told by True or False itself, in both orders."""
